@@ -64,6 +64,11 @@ func notTrees() []string {
 	}
 }
 
+// veryLongTexts returns texts of up to 2 MiB that are no trees.
+func veryLongTexts() []string {
+	return []string{strings.Repeat("(", 1<<20), strings.Repeat("()", 1<<20), path(1 << 20), star(1 << 20)}
+}
+
 // childrenOf cuts the text of a tree into the texts of the children of its root.
 func childrenOf(s string) []string {
 	kids := []string{}
@@ -154,5 +159,35 @@ func checkTexts(t *testing.T, call string, f func(string) (string, bool), exampl
 	for arg, want := range examples {
 		got, ok := f(arg)
 		checkText(t, call, arg, got, ok, want)
+	}
+}
+
+// checkNoTrees checks that functions, by name, fail for texts that are no trees.
+func checkNoTrees(t *testing.T, numbers map[string]func(string) (int, bool), lists map[string]func(string) ([]int, bool)) {
+	t.Helper()
+	for _, s := range append(notTrees(), veryLongTexts()...) {
+		shown := s[:min(len(s), 40)]
+		for call, f := range numbers {
+			if n, ok := f(s); ok || n != 0 {
+				t.Errorf("%s(%q) with %d bytes returned %d, %v", call, shown, len(s), n, ok)
+			}
+		}
+		for call, f := range lists {
+			if x, ok := f(s); ok || len(x) != 0 {
+				t.Errorf("%s(%q) with %d bytes returned %v, %v", call, shown, len(s), x, ok)
+			}
+		}
+	}
+}
+
+// checkNewLists writes into the result of each function, and behind it, and looks at that of another call.
+func checkNewLists(t *testing.T, lists map[string]func(string) ([]int, bool), s string, want map[string][]int) {
+	t.Helper()
+	for call, f := range lists {
+		x, _ := f(s)
+		clear(x[:cap(x)])
+		_ = append(x, 9)
+		again, ok := f(s)
+		checkList(t, call, s, again, ok, want[call])
 	}
 }

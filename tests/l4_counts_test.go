@@ -2,7 +2,6 @@ package tests
 
 import (
 	"slices"
-	"strings"
 	"sync"
 	"testing"
 
@@ -380,20 +379,7 @@ func TestCountChildrenExamples(t *testing.T) {
 }
 
 func TestCountsOfTextsThatAreNoTrees(t *testing.T) {
-	veryLong := []string{strings.Repeat("(", 1<<20), strings.Repeat("()", 1<<20), path(1 << 20), star(1 << 20)}
-	for _, s := range append(notTrees(), veryLong...) {
-		shown := s[:min(len(s), 40)]
-		for call, f := range numberCounts() {
-			if n, ok := f(s); ok || n != 0 {
-				t.Errorf("%s(%q) with %d bytes returned %d, %v", call, shown, len(s), n, ok)
-			}
-		}
-		for call, f := range listCounts() {
-			if x, ok := f(s); ok || len(x) != 0 {
-				t.Errorf("%s(%q) with %d bytes returned %v, %v", call, shown, len(s), x, ok)
-			}
-		}
-	}
+	checkNoTrees(t, numberCounts(), listCounts())
 }
 
 // TestCountsAreTheSameEachTime asks again and again, and many at once: which goroutine is done first must not be seen.
@@ -425,15 +411,6 @@ func checkAllCounts(t *testing.T, s string) {
 	}
 }
 
-// TestCountsAreNewMemory writes into the results of a call, and behind them, and looks at those of another call.
 func TestCountsAreNewMemory(t *testing.T) {
-	s := "(()(()))"
-	want := map[string][]int{"CountSizes": {4, 1, 2, 1}, "CountChildren": {2, 1, 1}}
-	for call, f := range listCounts() {
-		x, _ := f(s)
-		clear(x[:cap(x)])
-		_ = append(x, 9)
-		again, ok := f(s)
-		checkList(t, call, s, again, ok, want[call])
-	}
+	checkNewLists(t, listCounts(), "(()(()))", map[string][]int{"CountSizes": {4, 1, 2, 1}, "CountChildren": {2, 1, 1}})
 }
