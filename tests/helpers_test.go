@@ -1,6 +1,7 @@
 package tests
 
 import (
+	"math"
 	"slices"
 	"strings"
 	"testing"
@@ -67,6 +68,12 @@ func notTrees() []string {
 // veryLongTexts returns texts of up to 2 MiB that are no trees.
 func veryLongTexts() []string {
 	return []string{strings.Repeat("(", 1<<20), strings.Repeat("()", 1<<20), path(1 << 20), star(1 << 20)}
+}
+
+// noNodesOf returns numbers that no node of a tree has.
+func noNodesOf(s string) []int {
+	n := len(s) / 2
+	return []int{-1, -2, -n, n, n + 1, 2 * n, 1 << 32, math.MinInt, math.MaxInt}
 }
 
 // childrenOf cuts the text of a tree into the texts of the children of its root.

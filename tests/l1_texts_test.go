@@ -1,7 +1,6 @@
 package tests
 
 import (
-	"math"
 	"slices"
 	"strings"
 	"testing"
@@ -366,8 +365,7 @@ func TestTreePartOfAllNodes(t *testing.T) {
 
 func TestTreePartOfNoNode(t *testing.T) {
 	for _, s := range []string{"()", "(())", "(()(()))", path(impl.NodesMax), star(impl.NodesMax)} {
-		n := len(s) / 2
-		for _, v := range []int{-1, -2, -n, n, n + 1, 2 * n, math.MinInt, math.MaxInt} {
+		for _, v := range noNodesOf(s) {
 			if part, ok := impl.TreePart(s, v); ok || part != "" {
 				t.Errorf("TreePart(%q, %d) returned %q, %v", s, v, part, ok)
 			}
