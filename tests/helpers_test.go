@@ -76,6 +76,16 @@ func noNodesOf(s string) []int {
 	return []int{-1, -2, -n, n, n + 1, 2 * n, 1 << 32, math.MinInt, math.MaxInt}
 }
 
+// eachNoNode checks trees together with each number that no node of them has.
+func eachNoNode(check func(s string, v int)) {
+	trees := append(treesUpTo(5), path(impl.NodesMax-1), star(impl.NodesMax-1), path(impl.NodesMax), star(impl.NodesMax))
+	for _, s := range trees {
+		for _, v := range noNodesOf(s) {
+			check(s, v)
+		}
+	}
+}
+
 // childrenOf cuts the text of a tree into the texts of the children of its root.
 func childrenOf(s string) []string {
 	kids := []string{}

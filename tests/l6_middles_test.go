@@ -439,20 +439,7 @@ func TestMiddleAlikeExamples(t *testing.T) {
 
 // TestMiddlesAtNoNode has numbers that no node of a tree has.
 func TestMiddlesAtNoNode(t *testing.T) {
-	for _, s := range treesUpTo(5) {
-		checkNoNodes(t, s)
-	}
-	for _, n := range []int{impl.NodesMax - 1, impl.NodesMax} {
-		checkNoNodes(t, path(n))
-		checkNoNodes(t, star(n))
-	}
-}
-
-func checkNoNodes(t *testing.T, s string) {
-	t.Helper()
-	for _, v := range noNodesOf(s) {
-		checkNoMiddle(t, s, v)
-	}
+	eachNoNode(func(s string, v int) { checkNoMiddle(t, s, v) })
 }
 
 // checkNoMiddle checks that the functions that are asked for a node fail.
